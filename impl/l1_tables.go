@@ -241,8 +241,13 @@ func (r Ring) negative(a int) int {
 
 // sumOrder returns the least number of times, from 1 on, that an element of a valid ring has the sum 0.
 func (r Ring) sumOrder(a int) int {
+	return r.order(r.Sums, 0, a)
+}
+
+// order returns the least number of times, from 1 on, that an element gives the neutral one in a table, if there is such a number.
+func (r Ring) order(table []int, neutral, a int) int {
 	order := 1
-	for sum := a; sum != 0; sum = r.sum(sum, a) {
+	for result := a; result != neutral; result = r.row(table, result)[a] {
 		order++
 	}
 	return order
