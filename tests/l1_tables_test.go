@@ -24,6 +24,8 @@ func badRings() map[string]impl.Ring {
 		"least size":        {Size: math.MinInt, Sums: []int{0}, Products: []int{0}},
 		"size 17":           remainders(17),
 		"size wraps":        {Size: 1 << 32},
+		"size below 0":      {Size: -1},
+		"size 17, 16 rows":  {Size: 17, One: 1, Sums: remainders(16).Sums, Products: remainders(16).Products},
 		"size too small":    with(func(r *impl.Ring) { r.Size = 3 }),
 		"size too large":    with(func(r *impl.Ring) { r.Size = 5 }),
 		"One negative":      with(func(r *impl.Ring) { r.One = -1 }),
