@@ -239,6 +239,15 @@ func TestIdealOfLongList(t *testing.T) {
 	}
 }
 
+// sumsOf returns, in order, the sums of an element of one list and one of another one.
+func sumsOf(r impl.Ring, a, b []int) []int {
+	return chosen(r, func(c int) bool {
+		return slices.ContainsFunc(a, func(x int) bool {
+			return slices.ContainsFunc(b, func(y int) bool { return r.Sums[x*r.Size+y] == c })
+		})
+	})
+}
+
 // sumsOfProducts returns, in order, all sums of products of an element of one list and one of another one.
 func sumsOfProducts(r impl.Ring, a, b []int) []int {
 	sums := []int{0}
@@ -261,11 +270,7 @@ func TestTwoIdeals(t *testing.T) {
 			for _, b := range impl.AllIdeals(r) {
 				what := " of " + show(a...) + " and " + show(b...)
 				got, ok := impl.SumIdeal(r, a, b)
-				isThatIdeal(t, "SumIdeal"+what, r, got, ok, chosen(r, func(c int) bool {
-					return slices.ContainsFunc(a, func(x int) bool {
-						return slices.ContainsFunc(b, func(y int) bool { return r.Sums[x*r.Size+y] == c })
-					})
-				}))
+				isThatIdeal(t, "SumIdeal"+what, r, got, ok, sumsOf(r, a, b))
 				got, ok = impl.ProductIdeal(r, a, b)
 				isThatIdeal(t, "ProductIdeal"+what, r, got, ok, sumsOfProducts(r, a, b))
 				got, ok = impl.MeetIdeal(r, a, b)
@@ -531,21 +536,25 @@ func refusesIdeal(t *testing.T, what string, r impl.Ring, list, good []int) {
 	}
 }
 
-func TestFunctionsOfNoIdeals(t *testing.T) {
+// eachNoIdeal visits lists that are no ideals, with an ideal of the same ring.
+func eachNoIdeal(visit func(what string, r impl.Ring, list, good []int)) {
 	for _, list := range [][]int{
 		nil, {}, {1}, {2}, {4}, {0, 1}, {0, 4}, {0, 8}, {0, 6, 8}, {4, 8}, {6}, {2, 4, 6, 8, 10}, numbersBelow(11), // too few elements
 		{0, 8, 4}, {4, 0, 8}, {6, 0}, {10, 8, 6, 4, 2, 0}, {0, 0}, {0, 0, 6}, {0, 6, 6}, {0, 4, 4, 8}, // not in order
 		{-1}, {12}, {0, 12}, {-6, 0, 6}, {0, 4, 8, 12}, {-1, 0}, numbersBelow(13), numbersBelow(17), {math.MinInt}, {0, math.MaxInt}, // no elements
 	} {
-		refusesIdeal(t, "by 12", remainders(12), list, []int{0, 6})
+		visit("by 12", remainders(12), list, []int{0, 6})
 	}
 	for _, r := range idealRings() {
-		refusesIdeal(t, impl.FormatRing(r), r, nil, []int{0})
-		refusesIdeal(t, impl.FormatRing(r), r, []int{0, r.Size}, []int{0})
-		refusesIdeal(t, impl.FormatRing(r), r, append(numbersBelow(r.Size), r.Size), []int{0})
-		refusesIdeal(t, impl.FormatRing(r), r, append([]int{-1}, numbersBelow(r.Size)...), []int{0})
-		refusesIdeal(t, impl.FormatRing(r), r, append([]int{0}, numbersBelow(r.Size)...), []int{0})
+		all := numbersBelow(r.Size)
+		for _, list := range [][]int{nil, {0, r.Size}, append(numbersBelow(r.Size), r.Size), append([]int{-1}, all...), append([]int{0}, all...)} {
+			visit(impl.FormatRing(r), r, list, []int{0})
+		}
 	}
+}
+
+func TestFunctionsOfNoIdeals(t *testing.T) {
+	eachNoIdeal(func(what string, r impl.Ring, list, good []int) { refusesIdeal(t, what, r, list, good) })
 }
 
 func TestIdealOfNoElements(t *testing.T) {

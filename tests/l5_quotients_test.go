@@ -431,20 +431,7 @@ func refusesQuotient(t *testing.T, what string, r impl.Ring, list, good []int) {
 }
 
 func TestQuotientsByNoIdeals(t *testing.T) {
-	for _, list := range [][]int{
-		nil, {}, {1}, {2}, {4}, {0, 1}, {0, 4}, {0, 8}, {0, 6, 8}, {4, 8}, {6}, {2, 4, 6, 8, 10}, numbersBelow(11), // too few elements
-		{0, 8, 4}, {4, 0, 8}, {6, 0}, {10, 8, 6, 4, 2, 0}, {0, 0}, {0, 0, 6}, {0, 6, 6}, {0, 4, 4, 8}, // not in order
-		{-1}, {12}, {0, 12}, {-6, 0, 6}, {0, 4, 8, 12}, {-1, 0}, numbersBelow(13), numbersBelow(17), {math.MinInt}, {0, math.MaxInt}, // no elements
-	} {
-		refusesQuotient(t, "by 12", remainders(12), list, []int{0, 6})
-	}
-	for _, r := range idealRings() {
-		refusesQuotient(t, impl.FormatRing(r), r, nil, []int{0})
-		refusesQuotient(t, impl.FormatRing(r), r, []int{0, r.Size}, []int{0})
-		refusesQuotient(t, impl.FormatRing(r), r, append(numbersBelow(r.Size), r.Size), []int{0})
-		refusesQuotient(t, impl.FormatRing(r), r, append([]int{-1}, numbersBelow(r.Size)...), []int{0})
-		refusesQuotient(t, impl.FormatRing(r), r, append([]int{0}, numbersBelow(r.Size)...), []int{0})
-	}
+	eachNoIdeal(func(what string, r impl.Ring, list, good []int) { refusesQuotient(t, what, r, list, good) })
 }
 
 // TestLiftOfNoIdeals has lists that are no ideals of the quotient, ideals of other rings among them.
