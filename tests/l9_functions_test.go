@@ -96,17 +96,22 @@ func allPolynomials(r impl.Ring, count int) [][]int {
 	return all
 }
 
+// scattered returns a function that tells numbers below given ones, the same in each run.
+func scattered(start int) func(n int) int {
+	state := uint64(start)
+	return func(n int) int {
+		state = state*6364136223846793005 + 1442695040888963407
+		return int(state>>33) % n
+	}
+}
+
 // manyPolynomials returns 0 and, with each number of coefficients, polynomials whose last one is One, any, or, if there is such a one, a zero divisor.
 func manyPolynomials(r impl.Ring) [][]int {
 	polynomials := [][]int{nil}
 	if r.Size == 1 {
 		return polynomials
 	}
-	state := uint64(r.Size) // so that each run has the same polynomials
-	next := func(n int) int {
-		state = state*6364136223846793005 + 1442695040888963407
-		return int(state>>33) % n
-	}
+	next := scattered(r.Size)
 	divisors := chosen(r, func(a int) bool { return a != 0 && divides(r, a) })
 	for count := range 8 {
 		lasts := []int{r.One, 1 + next(r.Size-1)}
